@@ -303,6 +303,63 @@ func TestPromise3Renumberings(t *testing.T) {
 	none(auto(5, list(0, 0, 1, 0, 3)), auto(5, list(0, 0, 1, 2, 0)))
 	// The two last states lead to two states in common, or to four.
 	none(auto(6, list(0, 1, 2, 3, 0, 0), list(0, 1, 2, 3, 1, 1)), auto(6, list(0, 1, 2, 3, 0, 2), list(0, 1, 2, 3, 1, 3)))
+	// One state looks like another here, but four roads make one circle, or two.
+	none(roadMap(4, list(0, 1, 2, 3), list(1, 2, 3, 0)), roadMap(4, list(0, 1, 2, 3), list(1, 0, 3, 2)))
+	none(roadMap(5, upTo(5), list(1, 2, 3, 4, 0)), roadMap(5, upTo(5), list(1, 0, 3, 4, 2)))
+	found(roadMap(4, list(0, 1, 2, 3), list(1, 0, 3, 2)), roadMap(4, list(0, 1, 2, 3), list(2, 3, 0, 1)), list(0, 2, 1, 3, 4, 6, 5, 7))
+}
+
+// roadMap returns the automaton with some towns, which lead to themselves, and behind them a state for each road, from which the two letters lead to the towns at its ends.
+// Orders for it have to fit together in many places: they are those that lead from a map to a map.
+func roadMap(towns int64, from, to []int64) impl.Automaton {
+	return auto(towns+int64(len(from)), append(upTo(towns), from...), append(upTo(towns), to...))
+}
+
+// TestPromise3RenumberingsOfRoadMaps compares with all orders, for maps in which towns can hardly be told apart.
+func TestPromise3RenumberingsOfRoadMaps(t *testing.T) {
+	source := rand.New(rand.NewSource(4))
+	randomEnds := func(towns int64, roads int) []int64 {
+		ends := make([]int64, roads)
+		for i := range ends {
+			ends[i] = source.Int63n(towns)
+		}
+		return ends
+	}
+	for range 60 {
+		towns, roads := int64(3), 3
+		a := roadMap(towns, randomEnds(towns, roads), randomEnds(towns, roads))
+		b := roadMap(towns, randomEnds(towns, roads), randomEnds(towns, roads))
+		named("RenumberingOf").compare(t, a, b)
+		order := upTo(a.States)
+		source.Shuffle(len(order), func(i, k int) { order[i], order[k] = order[k], order[i] })
+		named("RenumberingOf").compare(t, a, modelSelect(a, order))
+	}
+	for range 12 {
+		// Each town has one road that begins and one that ends there.
+		begins, ends := modelOrders(4)[source.Intn(24)], modelOrders(4)[source.Intn(24)]
+		a, b := roadMap(4, upTo(4), begins), roadMap(4, upTo(4), ends)
+		order, code := impl.RenumberingOf(a, b)
+		again, _ := impl.RenumberStates(a, order)
+		if alike := slices.Equal(circlesOf(begins), circlesOf(ends)); alike != (code == impl.OK) || alike && !modelSame(again, b) {
+			t.Errorf("RenumberingOf(%v, %v): got %v %d", a, b, order, code)
+		}
+	}
+}
+
+// circlesOf returns the lengths of the circles of an order, in ascending order.
+func circlesOf(order []int64) []int64 {
+	var out []int64
+	for s := range order {
+		least, length := int64(s), int64(1)
+		for u := order[s]; u != int64(s); u = order[u] {
+			least, length = min(least, u), length+1
+		}
+		if least == int64(s) {
+			out = append(out, length)
+		}
+	}
+	slices.Sort(out)
+	return out
 }
 
 // TestPromise3RenumberingsOfFewStates compares with all orders.
