@@ -5,6 +5,7 @@ import (
 	"reflect"
 	"strconv"
 	"strings"
+	"sync"
 	"testing"
 )
 
@@ -310,6 +311,39 @@ func (f function) compareAll(t *testing.T, from pools) {
 		}
 	}
 	choose(0)
+}
+
+// wrongCall is a call that returns an error, and zero values beside it.
+type wrongCall struct {
+	name string
+	fn   any
+	args []any
+	code int
+	zero []any
+}
+
+func returnErrors(t *testing.T, calls []wrongCall) {
+	t.Helper()
+	for _, c := range calls {
+		expect(t, c.name, c.fn, c.args, append(c.zero, c.code))
+	}
+}
+
+// agreeTogether asks for the same answers from several goroutines at once.
+func agreeTogether(t *testing.T, answers func() []any) {
+	t.Helper()
+	want := wanted(answers()...)
+	var group sync.WaitGroup
+	for range 8 {
+		group.Go(func() {
+			for range 5 {
+				if got := wanted(answers()...); got != want {
+					t.Errorf("together: got %s want %s", got, want)
+				}
+			}
+		})
+	}
+	group.Wait()
 }
 
 // TestConventionChecks tells that the checks of this file find what they are for.

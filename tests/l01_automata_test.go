@@ -2,6 +2,7 @@ package tests
 
 import (
 	"math"
+	"slices"
 	"strings"
 
 	"loop.example/g01102/impl"
@@ -161,9 +162,9 @@ func chapter1() []function {
 	}
 }
 
-// named returns the function of chapter 1 with a name.
+// named returns the function of a chapter with a name.
 func named(name string) function {
-	for _, f := range chapter1() {
+	for _, f := range slices.Concat(chapter1(), chapter2()) {
 		if f.name == name {
 			return f
 		}

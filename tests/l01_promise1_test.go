@@ -5,7 +5,6 @@ import (
 	"reflect"
 	"slices"
 	"strings"
-	"sync"
 	"testing"
 
 	"loop.example/g01102/impl"
@@ -61,18 +60,7 @@ func TestPromise1TogetherChapter1(t *testing.T) {
 		add(class, code)
 		return out
 	}
-	want := wanted(answers()...)
-	var group sync.WaitGroup
-	for range 8 {
-		group.Go(func() {
-			for range 5 {
-				if got := wanted(answers()...); got != want {
-					t.Errorf("together: got %s want %s", got, want)
-				}
-			}
-		})
-	}
-	group.Wait()
+	agreeTogether(t, answers)
 }
 
 // TestPromise1LargeArguments gives arguments far beyond all limits.
@@ -116,13 +104,7 @@ func TestPromise1LargeArguments(t *testing.T) {
 func TestPromise1FirstErrors(t *testing.T) {
 	bad, a, big := auto(2, list(0, 2)), example(), overfullMonoid()
 	one := auto(1, list(0))
-	cases := []struct {
-		name string
-		fn   any
-		args []any
-		code int
-		zero []any
-	}{
+	returnErrors(t, []wrongCall{
 		{"ReadAutomaton", impl.ReadAutomaton, []any{string(make([]byte, 2001))}, impl.ErrRange, []any{impl.Automaton{}}},
 		{"ActionOf", impl.ActionOf, []any{bad, list(7)}, impl.ErrInvalid, []any{nil}},
 		{"ImageOf", impl.ImageOf, []any{bad, list(5), list(7)}, impl.ErrInvalid, []any{nil}},
@@ -149,10 +131,7 @@ func TestPromise1FirstErrors(t *testing.T) {
 		{"RenumberStates", impl.RenumberStates, []any{bad, list(7)}, impl.ErrInvalid, []any{impl.Automaton{}}},
 		{"RenumberingOf", impl.RenumberingOf, []any{bad, a}, impl.ErrInvalid, []any{nil}},
 		{"RenumberingOf", impl.RenumberingOf, []any{a, bad}, impl.ErrInvalid, []any{nil}},
-	}
-	for _, c := range cases {
-		expect(t, c.name, c.fn, c.args, append(c.zero, c.code))
-	}
+	})
 }
 
 // TestPromise1InvalidAutomata tells that no function takes an automaton that is not valid.
