@@ -58,12 +58,18 @@ func CodeName(code int64) string {
 
 // ValidAutomaton reports whether an automaton is valid.
 func ValidAutomaton(a Automaton) bool {
-	letters := len(a.Next)
-	if a.States < 1 || a.States > MaxStates || letters < 1 || letters > MaxLetters {
+	return isFilled(a.States, a.Next, func(t int64) bool { return isBelow(t, a.States) })
+}
+
+// isFilled reports whether there may be so many states and letters, and next has a list for each letter with an element for each state, all of which are right.
+func isFilled[T any](states int64, next [][]T, isRight func(T) bool) bool {
+	letters := len(next)
+	if states < 1 || states > MaxStates || letters < 1 || letters > MaxLetters {
 		return false
 	}
-	for _, next := range a.Next {
-		if !isStateList(a.States, next) {
+	isWrong := func(element T) bool { return !isRight(element) }
+	for _, line := range next {
+		if int64(len(line)) != states || slices.ContainsFunc(line, isWrong) {
 			return false
 		}
 	}
@@ -104,9 +110,9 @@ func isSet(states int64, list []int64) bool {
 	return true
 }
 
-// isLetterList reports whether a list is a word of a valid automaton.
-func isLetterList(a Automaton, w []int64) bool {
-	return len(w) <= MaxWord && areBelow(w, int64(len(a.Next)))
+// isLetterList reports whether a list is a word of so many letters.
+func isLetterList(letters int, w []int64) bool {
+	return len(w) <= MaxWord && areBelow(w, int64(letters))
 }
 
 // AutomatonText returns the text of an automaton.
@@ -114,32 +120,41 @@ func AutomatonText(a Automaton) string {
 	if !ValidAutomaton(a) {
 		return ""
 	}
+	return lettersText("automaton", a.States, a.Next, numberText)
+}
+
+// lettersText returns the text of an automaton of a kind; wordOf returns the word for an element of next.
+func lettersText[T any](kind string, states int64, next [][]T, wordOf func(T) string) string {
 	var text strings.Builder
-	text.WriteString("automaton")
-	writeNumbers(&text, a.States, int64(len(a.Next)))
-	for _, next := range a.Next {
+	text.WriteString(kind)
+	writeWords(&text, []int64{states, int64(len(next))}, numberText)
+	for _, line := range next {
 		text.WriteString("letter")
-		writeNumbers(&text, next...)
+		writeWords(&text, line, wordOf)
 	}
 	return text.String()
 }
 
-// writeNumbers ends a line with numbers.
-func writeNumbers(text *strings.Builder, numbers ...int64) {
-	for _, number := range numbers {
+// writeWords ends a line with a word for each element of a list.
+func writeWords[T any](text *strings.Builder, list []T, wordOf func(T) string) {
+	for _, element := range list {
 		text.WriteByte(' ')
-		text.WriteString(strconv.FormatInt(number, 10))
+		text.WriteString(wordOf(element))
 	}
 	text.WriteByte('\n')
 }
 
+func numberText(number int64) string {
+	return strconv.FormatInt(number, 10)
+}
+
 // ReadAutomaton returns the automaton with the given text.
 func ReadAutomaton(text string) (Automaton, int64) {
-	a, err := parseAutomaton(text)
+	states, next, err := parseLetters(text, "automaton", (*textReader).state)
 	if err != nil {
 		return Automaton{}, codeOf(err)
 	}
-	return a, OK
+	return Automaton{states, next}, OK
 }
 
 // textFault is the error of a parser: the code that its caller returns, and the byte behind which the text is wrong.
@@ -174,12 +189,19 @@ func (r *textReader) fail() {
 	}
 }
 
-func (r *textReader) expect(part string) {
-	if r.fault == nil && strings.HasPrefix(r.text[r.offset:], part) {
-		r.offset += len(part)
-		return
+// takes reports whether the text goes on with a part, which it takes then.
+func (r *textReader) takes(part string) bool {
+	if r.fault != nil || !strings.HasPrefix(r.text[r.offset:], part) {
+		return false
 	}
-	r.fail()
+	r.offset += len(part)
+	return true
+}
+
+func (r *textReader) expect(part string) {
+	if !r.takes(part) {
+		r.fail()
+	}
 }
 
 // number takes a number between two that are not negative; it is 0 behind a fault.
@@ -191,12 +213,17 @@ func (r *textReader) number(least, most int64) int64 {
 	digits := r.text[r.offset:end]
 	value, err := strconv.ParseInt(digits, 10, 64)
 	// Only plain decimal is written back as it was read.
-	if r.fault != nil || err != nil || strconv.FormatInt(value, 10) != digits || value < least || value > most {
+	if r.fault != nil || err != nil || numberText(value) != digits || value < least || value > most {
 		r.fail()
 		return 0
 	}
 	r.offset = end
 	return value
+}
+
+// state takes one of so many states.
+func (r *textReader) state(states int64) int64 {
+	return r.number(0, states-1)
 }
 
 func (r *textReader) expectEnd() {
@@ -205,37 +232,39 @@ func (r *textReader) expectEnd() {
 	}
 }
 
-func parseAutomaton(text string) (Automaton, error) {
+// parseLetters returns the number of states and the list of each letter, of an automaton of a kind with the given text; take takes the element for a state.
+func parseLetters[T any](text, kind string, take func(r *textReader, states int64) T) (int64, [][]T, error) {
 	if len(text) > MaxText {
-		return Automaton{}, textFault{ErrRange, MaxText}
+		return 0, nil, textFault{ErrRange, MaxText}
 	}
 	r := &textReader{text: text}
-	r.expect("automaton ")
-	a := Automaton{States: r.number(1, MaxStates)}
+	r.expect(kind + " ")
+	states := r.number(1, MaxStates)
 	r.expect(" ")
 	letters := r.number(1, MaxLetters)
 	r.expect("\n")
-	for range letters {
-		a.Next = append(a.Next, r.letterLine(a.States))
+	next := make([][]T, letters)
+	for letter := range next {
+		next[letter] = parseLine(r, states, take)
 	}
 	r.expectEnd()
-	return a, r.fault
+	return states, next, r.fault
 }
 
-func (r *textReader) letterLine(states int64) []int64 {
-	next := make([]int64, states)
+func parseLine[T any](r *textReader, states int64, take func(r *textReader, states int64) T) []T {
+	line := make([]T, states)
 	r.expect("letter")
-	for s := range next {
+	for s := range line {
 		r.expect(" ")
-		next[s] = r.number(0, states-1)
+		line[s] = take(r, states)
 	}
 	r.expect("\n")
-	return next
+	return line
 }
 
 // ValidWord reports whether a list is a word of an automaton.
 func ValidWord(a Automaton, w []int64) bool {
-	return ValidAutomaton(a) && isLetterList(a, w)
+	return ValidAutomaton(a) && isLetterList(len(a.Next), w)
 }
 
 // WordText returns the text of a list of letters.
@@ -330,7 +359,7 @@ func ActionOf(a Automaton, w []int64) ([]int64, int64) {
 	if !ValidAutomaton(a) {
 		return nil, ErrInvalid
 	}
-	if !isLetterList(a, w) {
+	if !isLetterList(len(a.Next), w) {
 		return nil, ErrRange
 	}
 	return wordAction(a, w).list(a.States), OK
@@ -341,7 +370,7 @@ func checkSetAndWord(a Automaton, set, w []int64) int64 {
 	if !ValidAutomaton(a) {
 		return ErrInvalid
 	}
-	if !isSet(a.States, set) || !isLetterList(a, w) {
+	if !isSet(a.States, set) || !isLetterList(len(a.Next), w) {
 		return ErrRange
 	}
 	return OK

@@ -170,24 +170,29 @@ func TestPromise2TextsOfNoAutomaton(t *testing.T) {
 	}
 }
 
-// TestPromise2ChangedTexts leaves out, adds and changes each byte of texts.
-func TestPromise2ChangedTexts(t *testing.T) {
-	const bytes = "0129 -+\naelrtbx\r\t\x00\xff"
-	for _, text := range []string{exampleText, "automaton 1 1\nletter 0\n", "automaton 10 1\nletter 9 0 1 2 3 4 5 6 7 8\n"} {
+// compareChangedTexts leaves out, adds and changes each byte of texts that a function reads.
+func compareChangedTexts(t *testing.T, name string, texts ...string) {
+	t.Helper()
+	const bytes = "0129 .,-+\naeilrtbcpx\r\t\x00\xff"
+	for _, text := range texts {
 		for i := range len(text) + 1 {
-			named("ReadAutomaton").compare(t, text[:i])
+			named(name).compare(t, text[:i])
 			for _, b := range []byte(bytes) {
-				named("ReadAutomaton").compare(t, text[:i]+string([]byte{b})+text[i:])
+				named(name).compare(t, text[:i]+string([]byte{b})+text[i:])
 			}
 			if i == len(text) {
 				break
 			}
-			named("ReadAutomaton").compare(t, text[:i]+text[i+1:])
+			named(name).compare(t, text[:i]+text[i+1:])
 			for _, b := range []byte(bytes) {
-				named("ReadAutomaton").compare(t, text[:i]+string([]byte{b})+text[i+1:])
+				named(name).compare(t, text[:i]+string([]byte{b})+text[i+1:])
 			}
 		}
 	}
+}
+
+func TestPromise2ChangedTexts(t *testing.T) {
+	compareChangedTexts(t, "ReadAutomaton", exampleText, "automaton 1 1\nletter 0\n", "automaton 10 1\nletter 9 0 1 2 3 4 5 6 7 8\n")
 }
 
 func TestPromise2LongTexts(t *testing.T) {

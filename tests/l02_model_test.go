@@ -17,23 +17,28 @@ func modelImage(a impl.Automaton, set, w []int64) []int64 {
 	})
 }
 
-// modelFirst returns the first word whose image of a set is good. A word is not gone on with if another one before it has the same image.
+// modelFirst returns the first word whose image of a set is good.
 func modelFirst(a impl.Automaton, set []int64, good func(image []int64) bool) ([]int64, int64) {
+	return modelFirstOf(len(a.Next), func(w []int64) ([]int64, bool) { return modelImage(a, set, w), true }, good)
+}
+
+// modelFirstOf returns the first word whose image is good. A word is not gone on with if it cannot be read, or if another one before it has the same image.
+func modelFirstOf(letters int, read func(w []int64) ([]int64, bool), good func(image []int64) bool) ([]int64, int64) {
 	seen := map[string]bool{}
 	level := []string{""}
 	for len(level) > 0 {
 		var longer []string
 		for _, text := range level {
 			w, _ := modelReadWord(text)
-			image := modelImage(a, set, w)
-			if seen[fmt.Sprint(image)] {
+			image, ok := read(w)
+			if !ok || seen[fmt.Sprint(image)] {
 				continue
 			}
 			if good(image) {
 				return w, impl.OK
 			}
 			seen[fmt.Sprint(image)] = true
-			for letter := range a.Next {
+			for letter := range letters {
 				longer = append(longer, text+string("abc"[letter]))
 			}
 		}
