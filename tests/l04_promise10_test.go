@@ -176,6 +176,7 @@ func TestPromise10FirstCarefulWords(t *testing.T) {
 
 // TestPromise10ShortWords goes through all short words: the first one that is careful is CarefulWord, and each of them resets every filling.
 func TestPromise10ShortWords(t *testing.T) {
+	t.Parallel()
 	carefuls, others := 0, 0
 	for _, p := range fewFillings() {
 		all := allFillings(t, p)
@@ -220,6 +221,7 @@ func TestPromise10NotOnlyCarefulWords(t *testing.T) {
 
 // TestPromise10WithoutGaps tells that the careful words of an automaton without gaps are its reset words.
 func TestPromise10WithoutGaps(t *testing.T) {
+	t.Parallel()
 	for _, a := range variedAutomata() {
 		p := impl.Partial(a)
 		shortest, code := impl.ShortestReset(a)
@@ -241,6 +243,7 @@ func TestPromise10WithoutGaps(t *testing.T) {
 
 // TestPromise10ImagesOfManyPartials compares careful images with their models, for all sets of small partial automata and for long words.
 func TestPromise10ImagesOfManyPartials(t *testing.T) {
+	t.Parallel()
 	source := rand.New(rand.NewSource(10))
 	for _, p := range append(smallPartials(), randomPartials(100, 4, 10, 6)...) {
 		for range 6 {
@@ -328,6 +331,7 @@ func TestPromise10FirstFillings(t *testing.T) {
 
 // TestPromise10FillingsInOrder looks at all fillings: FirstFilling is the first one that can be reset.
 func TestPromise10FillingsInOrder(t *testing.T) {
+	t.Parallel()
 	later := 0
 	for _, p := range append(fewFillings(), gapsWithLoops()...) {
 		want, code := impl.Automaton{}, int64(impl.ErrNotFound)
@@ -364,6 +368,7 @@ func gapsWithLoops() []impl.Partial {
 }
 
 func TestPromise10SurestWords(t *testing.T) {
+	t.Parallel()
 	surest := func(p impl.Partial, want string) {
 		t.Helper()
 		expect(t, "SurestWord", impl.SurestWord, []any{p}, []any{word(want), impl.OK})
@@ -400,6 +405,7 @@ func TestPromise10SurestWords(t *testing.T) {
 
 // TestPromise10FillingLimit has 4096 fillings, and 6561 and more: no number of states has a power between.
 func TestPromise10FillingLimit(t *testing.T) {
+	t.Parallel()
 	within := []impl.Partial{
 		partial(4, list(gap, gap, gap, gap), list(gap, gap, 2, 3)),
 		partial(8, append(repeated(gap, 4), 3, 4, 5, 6)),

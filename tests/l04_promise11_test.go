@@ -89,6 +89,7 @@ func TestPromise11ReachedSets(t *testing.T) {
 
 // TestPromise11ReachOfManyChoices compares reached sets with their models, and with what the parts of sets and of words reach.
 func TestPromise11ReachOfManyChoices(t *testing.T) {
+	t.Parallel()
 	source := rand.New(rand.NewSource(12))
 	for _, c := range manyChoices() {
 		sets := subsets(c.States)
@@ -218,6 +219,7 @@ func TestPromise11FirstDirectingWords(t *testing.T) {
 
 // TestPromise11ShortWords goes through all short words of automata with choices: what Directs tells is what the reached sets tell, and the first word that directs is DirectingWord.
 func TestPromise11ShortWords(t *testing.T) {
+	t.Parallel()
 	longer, short := 0, 0
 	for _, c := range manyChoices() {
 		words := choiceWords(c, 3)
@@ -248,6 +250,7 @@ func TestPromise11ShortWords(t *testing.T) {
 
 // TestPromise11DirectingWordsOfManyChoices compares first directing words with their models, the errors among them.
 func TestPromise11DirectingWordsOfManyChoices(t *testing.T) {
+	t.Parallel()
 	seen := map[string]int{}
 	for _, c := range append(manyChoices(), fullTuples(), overTuples()) {
 		for _, kind := range kinds() {
@@ -263,6 +266,7 @@ func TestPromise11DirectingWordsOfManyChoices(t *testing.T) {
 
 // TestPromise11TupleLimit reaches MaxTuples lists, and passes it by one: with no list that directs, and with one that is found as the last one that may be, or behind it.
 func TestPromise11TupleLimit(t *testing.T) {
+	t.Parallel()
 	for _, kind := range kinds() {
 		expect(t, "DirectingWord", impl.DirectingWord, []any{fullTuples(), kind}, []any{nil, impl.ErrNotFound})
 		expect(t, "DirectingWord", impl.DirectingWord, []any{overTuples(), kind}, []any{nil, impl.ErrLimit})
@@ -325,6 +329,7 @@ func placeOf(c impl.Choice, last []int64) int {
 
 // TestPromise11SameDirectsInAllWays tells that a word which directs in the way DirSame directs in the other two ways, and that in a total automaton one that directs in the way DirEqual also directs in the way DirMeet.
 func TestPromise11SameDirectsInAllWays(t *testing.T) {
+	t.Parallel()
 	same := 0
 	for _, c := range manyChoices() {
 		total, _ := impl.IsTotal(c)
@@ -351,6 +356,7 @@ func TestPromise11SameDirectsInAllWays(t *testing.T) {
 
 // TestPromise11CarefulWordsDirect tells that the careful words of a partial automaton are those that direct in the way DirSame for its ChoiceOf.
 func TestPromise11CarefulWordsDirect(t *testing.T) {
+	t.Parallel()
 	careful := 0
 	for _, p := range slices.Concat(validPartials(), smallPartials(), randomPartials(200, 4, 7, 6)) {
 		c, _ := impl.ChoiceOf(p)
@@ -415,6 +421,7 @@ func TestPromise11Refinements(t *testing.T) {
 
 // TestPromise11FewerChoicesReachFewerStates leaves out some next states: what is reached then is a part of what was reached before.
 func TestPromise11FewerChoicesReachFewerStates(t *testing.T) {
+	t.Parallel()
 	source := rand.New(rand.NewSource(13))
 	less := 0
 	for _, d := range append(randomChoices(200, 2, 6), validChoices()...) {

@@ -123,6 +123,7 @@ func TestPromise9TextsOfNoPartial(t *testing.T) {
 }
 
 func TestPromise9ChangedTexts(t *testing.T) {
+	t.Parallel()
 	compareChangedTexts(t, "ReadPartial", gapText, "partial 1 1\nletter .\n", "partial 10 1\nletter . 9 . 0 1 2 . 3 4 .\n")
 	compareChangedTexts(t, "ReadChoice", choiceText, "choice 1 1\nletter .\n", "choice 4 2\nletter . 0 0,1,2,3 1,3\nletter 0,2 . . 3\n")
 }
@@ -300,6 +301,7 @@ func TestPromise9Fillings(t *testing.T) {
 
 // TestPromise9FillingsFillJustTheGaps tells that a filling leads from gaps to the given states, in the order of GapsOf, and from everywhere else to where it has led before.
 func TestPromise9FillingsFillJustTheGaps(t *testing.T) {
+	t.Parallel()
 	for _, p := range slices.Concat(smallPartials(), randomPartials(50, 4, 6, 3)) {
 		gaps, _ := impl.GapsOf(p)
 		seen := map[string]bool{}
