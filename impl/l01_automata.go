@@ -120,14 +120,14 @@ func AutomatonText(a Automaton) string {
 	if !ValidAutomaton(a) {
 		return ""
 	}
-	return lettersText("automaton", a.States, a.Next, numberText)
+	return lettersText("automaton", []int64{a.States}, a.Next, numberText)
 }
 
-// lettersText returns the text of an automaton of a kind; wordOf returns the word for an element of next.
-func lettersText[T any](kind string, states int64, next [][]T, wordOf func(T) string) string {
+// lettersText returns the text of an automaton of a kind; counts stand in front of the number of letters, and wordOf returns the word for an element of next.
+func lettersText[T any](kind string, counts []int64, next [][]T, wordOf func(T) string) string {
 	var text strings.Builder
 	text.WriteString(kind)
-	writeWords(&text, []int64{states, int64(len(next))}, numberText)
+	writeWords(&text, append(counts, int64(len(next))), numberText)
 	for _, line := range next {
 		text.WriteString("letter")
 		writeWords(&text, line, wordOf)

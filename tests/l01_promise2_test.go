@@ -173,7 +173,7 @@ func TestPromise2TextsOfNoAutomaton(t *testing.T) {
 // compareChangedTexts leaves out, adds and changes each byte of texts that a function reads.
 func compareChangedTexts(t *testing.T, name string, texts ...string) {
 	t.Helper()
-	const bytes = "0129 .,-+\naeilrtbcpx\r\t\x00\xff"
+	const bytes = "0129 .,-+/\naeilrtbcpx\r\t\x00\xff"
 	for _, text := range texts {
 		for i := range len(text) + 1 {
 			named(name).compare(t, text[:i])
