@@ -194,21 +194,26 @@ func swollenMachines(count int, most int64) []impl.Machine {
 			class = append(class, source.Int63n(m.States))
 		}
 		source.Shuffle(len(class), func(i, k int) { class[i], class[k] = class[k], class[i] })
-		swollen := machine(states, m.Outputs, nil, nil)
-		for letter := range m.Next {
-			var next, out []int64
-			for _, c := range class {
-				t := source.Intn(len(class))
-				for class[t] != m.Next[letter][c] {
-					t = source.Intn(len(class))
-				}
-				next, out = append(next, int64(t)), append(out, m.Out[letter][c])
-			}
-			swollen.Next, swollen.Out = append(swollen.Next, next), append(swollen.Out, out)
-		}
-		all = append(all, swollen)
+		all = append(all, swollen(source, m, class))
 	}
 	return all
+}
+
+// swollen returns a machine whose states are equivalent to those of another one that a list tells; letters lead to any one of several.
+func swollen(source *rand.Rand, m impl.Machine, class []int64) impl.Machine {
+	n := machine(int64(len(class)), m.Outputs, nil, nil)
+	for letter := range m.Next {
+		var next, out []int64
+		for _, c := range class {
+			t := source.Intn(len(class))
+			for class[t] != m.Next[letter][c] {
+				t = source.Intn(len(class))
+			}
+			next, out = append(next, int64(t)), append(out, m.Out[letter][c])
+		}
+		n.Next, n.Out = append(n.Next, next), append(n.Out, out)
+	}
+	return n
 }
 
 // adaptiveMachines have telling trees with a depth less than the length of their telling words, or no telling words at all. Beside the longest way of some trees, a lesser letter would do for the depth of the tree, but not for that of the node.
