@@ -3,6 +3,7 @@ package tests
 import (
 	"fmt"
 	"reflect"
+	"slices"
 	"strconv"
 	"strings"
 	"sync"
@@ -167,10 +168,14 @@ func isZero(v reflect.Value) bool {
 	return v.IsZero()
 }
 
-// zeroBesideError tells whether there is something beside an error. A function with two results or more tells a code in the last one.
+// zeroBesideError tells whether all is zero beside an error, and beside false. A function with two results or more tells a code in the last one.
 func zeroBesideError(results []reflect.Value) bool {
 	last := len(results) - 1
-	if last < 1 || results[last].Int() == 0 {
+	if last < 1 {
+		return true
+	}
+	isFalse := func(v reflect.Value) bool { return v.Kind() == reflect.Bool && !v.Bool() }
+	if results[last].Int() == 0 && !slices.ContainsFunc(results[:last], isFalse) {
 		return true
 	}
 	for _, v := range results[:last] {
@@ -219,7 +224,7 @@ func called(t *testing.T, name string, fn any, args ...any) string {
 		complain(what)
 	}
 	if !zeroBesideError(results) {
-		complain("there is something beside an error: " + answer)
+		complain("there is something beside an error, or beside false: " + answer)
 	}
 	for _, v := range results {
 		fill(v)
@@ -367,6 +372,12 @@ func TestConventionChecks(t *testing.T) {
 	}
 	if zeroBesideError([]reflect.Value{list, reflect.ValueOf(int64(1))}) {
 		t.Error("a result beside an error is not found")
+	}
+	if zeroBesideError([]reflect.Value{list, reflect.ValueOf(false), reflect.ValueOf(int64(0))}) {
+		t.Error("a result beside false is not found")
+	}
+	if !zeroBesideError([]reflect.Value{list, reflect.ValueOf(true), reflect.ValueOf(int64(0))}) {
+		t.Error("a result beside true is right")
 	}
 	if !zeroBesideError([]reflect.Value{reflect.ValueOf([]int64{}), reflect.ValueOf(int64(1))}) {
 		t.Error("an empty list is a zero value")

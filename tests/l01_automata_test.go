@@ -164,7 +164,7 @@ func chapter1() []function {
 
 // named returns the function of a chapter with a name.
 func named(name string) function {
-	for _, f := range slices.Concat(chapter1(), chapter2(), chapter3(), chapter4(), chapter5(), chapter6(), chapter7()) {
+	for _, f := range slices.Concat(chapter1(), chapter2(), chapter3(), chapter4(), chapter5(), chapter6(), chapter7(), chapter8()) {
 		if f.name == name {
 			return f
 		}
